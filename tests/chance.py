@@ -1,0 +1,75 @@
+"""Lists of calls that look random and are the same in every run, with what the model answers."""
+
+from calls import GREATEST, GREATEST_SIGNED, INIT, LEAST_SIGNED, NAME, base, div, known, mul, power, root
+from model import Model
+
+
+class Chance:
+    def __init__(self, seed):
+        self.state = seed
+
+    def below(self, bound):
+        self.state = (self.state * 6364136223846793005 + 1442695040888963407) % (1 << 64)
+        return (self.state >> 33) % bound
+
+    def one_of(self, values):
+        return values[self.below(len(values))]
+
+
+def formula(chance, made):
+    if chance.below(40) == 0:
+        return chance.one_of([made, made + 1, 64, GREATEST])
+    return chance.below(max(made, 1))
+
+
+def exponent(chance):
+    return chance.one_of([0, 0, 1, -1, 2, -2, 3, 4])
+
+
+def base_call(chance):
+    if chance.below(12) == 0:
+        return base(*[0] * chance.one_of([0, 6, 8, 100]))
+    if chance.below(12) == 0:
+        return known(0, chance.one_of([6, -6, 7, -7, GREATEST_SIGNED, LEAST_SIGNED]))
+    return known(*[exponent(chance) for unit in range(1 + chance.below(3))])
+
+
+def some_power(chance):
+    if chance.below(12) == 0:
+        return chance.one_of([LEAST_SIGNED, GREATEST_SIGNED])
+    return chance.one_of([0, -1, 2, -2, 3, 4, 6, 7])
+
+
+def some_degree(chance):
+    if chance.below(12) == 0:
+        return chance.one_of([0, 7, -1, LEAST_SIGNED, GREATEST_SIGNED])
+    return chance.one_of([1, 2, 2, 2, 3, 3, 4, 5, 6])
+
+
+def some_call(chance, made):
+    """A call, where so many formulas were made."""
+    kind = chance.below(24)
+    if kind < 2:
+        return NAME
+    if kind < 5:
+        return base_call(chance)
+    if kind < 11:
+        return mul(formula(chance, made), formula(chance, made))
+    if kind < 15:
+        return div(formula(chance, made), formula(chance, made))
+    if kind < 18:
+        return power(formula(chance, made), some_power(chance))
+    return root(formula(chance, made), some_degree(chance))
+
+
+def some_calls(seed, count):
+    """Calls and what the model answers to them."""
+    chance = Chance(seed)
+    model = Model()
+    calls = [NAME, known(1)]
+    numbers = [model.answer(call) for call in calls]
+    while len(calls) < count:
+        call = INIT if chance.below(60) == 0 else some_call(chance, len(model.formulas))
+        calls.append(call)
+        numbers.append(model.answer(call))
+    return calls, numbers

@@ -1,0 +1,1 @@
+"""Units of measure through formulas."""
