@@ -1,6 +1,7 @@
 """Lists of calls that look random and are the same in every run, with what the model answers."""
 
-from calls import GREATEST, GREATEST_SIGNED, INIT, LEAST_SIGNED, NAME, base, div, known, mul, power, root
+from calls import BACK, GREATEST, GREATEST_SIGNED, INIT, KEEP, LEAST_SIGNED, NAME, add, base, compare, div, eq, known
+from calls import mul, power, root, unit
 from model import Model
 
 
@@ -14,6 +15,10 @@ class Chance:
 
     def one_of(self, values):
         return values[self.below(len(values))]
+
+    def shuffled(self, values):
+        left = list(values)
+        return [left.pop(self.below(len(left))) for value in values]
 
 
 def formula(chance, made):
@@ -31,7 +36,7 @@ def base_call(chance):
         return base(*[0] * chance.one_of([0, 6, 8, 100]))
     if chance.below(12) == 0:
         return known(0, chance.one_of([6, -6, 7, -7, GREATEST_SIGNED, LEAST_SIGNED]))
-    return known(*[exponent(chance) for unit in range(1 + chance.below(3))])
+    return known(*[exponent(chance) for place in range(1 + chance.below(3))])
 
 
 def some_power(chance):
@@ -46,20 +51,36 @@ def some_degree(chance):
     return chance.one_of([1, 2, 2, 2, 3, 3, 4, 5, 6])
 
 
-def some_call(chance, made):
-    """A call, where so many formulas were made."""
+def making_call(chance, made):
+    """A call that makes a formula, where so many were made."""
     kind = chance.below(24)
-    if kind < 2:
+    if kind < 4:
         return NAME
-    if kind < 5:
+    if kind < 7:
         return base_call(chance)
-    if kind < 11:
+    if kind < 14:
         return mul(formula(chance, made), formula(chance, made))
-    if kind < 15:
+    if kind < 19:
         return div(formula(chance, made), formula(chance, made))
-    if kind < 18:
+    if kind < 22:
         return power(formula(chance, made), some_power(chance))
     return root(formula(chance, made), some_degree(chance))
+
+
+def some_call(chance, made):
+    """A call of any kind but init, where so many formulas were made."""
+    kind = chance.below(24)
+    if kind < 12:
+        return making_call(chance, made)
+    if kind < 14:
+        return add(formula(chance, made), formula(chance, made))
+    if kind < 16:
+        return eq(formula(chance, made), formula(chance, made))
+    if kind < 18:
+        return compare(formula(chance, made), formula(chance, made))
+    if kind < 22:
+        return unit(formula(chance, made))
+    return KEEP if kind == 22 else BACK
 
 
 def some_calls(seed, count):
@@ -67,9 +88,9 @@ def some_calls(seed, count):
     chance = Chance(seed)
     model = Model()
     calls = [NAME, known(1)]
-    numbers = [model.answer(call) for call in calls]
+    found = [model.answer(call) for call in calls]
     while len(calls) < count:
         call = INIT if chance.below(60) == 0 else some_call(chance, len(model.formulas))
         calls.append(call)
-        numbers.append(model.answer(call))
-    return calls, numbers
+        found.append(model.answer(call))
+    return calls, found

@@ -3,7 +3,7 @@
 import unittest
 
 from chance import Chance
-from unitformulas.uni import every_way, ways_with_line
+from unitformulas.uni import every_way, units_in, ways_with_line
 
 
 def line(names, known):
@@ -70,6 +70,13 @@ class Ways(unittest.TestCase):
             for told in lines:
                 self.assertEqual([value(told, start, unit) for unit, start in enumerate(ways.starts)], [0] * 7)
                 self.assertEqual([value(told[:6] + [0] * 7, step, 0) for step in ways.steps], [0] * len(ways.steps))
+
+    def test_units_are_asked_without_a_change(self):
+        ways = narrowed(line([2, -3], [1, 5]))
+        starts, steps = [list(start) for start in ways.starts], [list(step) for step in ways.steps]
+        self.assertEqual(units_in(ways, line([1], [])), (3, [1, 2, 0, 0, 0, 0, 0]))
+        self.assertEqual(units_in(ways, line([4, -6], [0, 1])), (0, [-2, -9, 0, 0, 0, 0, 0]))
+        self.assertEqual((ways.starts, ways.steps), (starts, steps))
 
 
 if __name__ == "__main__":

@@ -10,8 +10,14 @@ MUL = 3
 DIV = 4
 POW = 5
 ROOT = 6
+ADD = 7
+EQ = 8
+TEST = 9
+UNIT = 10
+KEEP = 11
+BACK = 12
 
-NO_FORMULA = -1
+NONE_THERE = -1
 TOO_MUCH = -2
 CANNOT_BE = -3
 
@@ -20,10 +26,11 @@ BASE_UNITS = 7
 FORMULAS = 64
 LARGEST_EXPONENT = 6
 LARGEST_ROOT = 6
+MOST_KEPT = 8
 
-
-class UnknownCall(ValueError):
-    """A call's number that this program has no call for."""
+ALWAYS_SAME = 0
+SOMETIMES_SAME = 1
+NEVER_SAME = 2
 
 
 class Ways:
@@ -40,7 +47,7 @@ class Ways:
 
 
 class Sheet:
-    """The names, formulas and lines that were accepted so far."""
+    """The names, formulas and lines that were accepted so far, and what was kept of them on the way."""
 
     def __init__(self):
         self.begin()
@@ -49,6 +56,17 @@ class Sheet:
         self.names = 0
         self.formulas = []
         self.ways = every_way()
+        self.kept = []
+
+    def keep(self):
+        # The list of formulas grows; what stands in it, and the ways, are never changed and need no copy.
+        self.kept.append((self.names, list(self.formulas), self.ways))
+
+    def go_back(self):
+        last = self.kept.pop()
+        self.names = last[0]
+        self.formulas = last[1]
+        self.ways = last[2]
 
 
 class Reader:
@@ -142,8 +160,27 @@ def ways_with_line(ways, line):
     return Ways(starts, parted[1])
 
 
+def units_in(ways, exponents):
+    """The units that a formula of these exponents has in the ways: by how much they differ, and one of them.
+
+    The ways go any steps in each base unit, whatever they go in the others, so each exponent may differ by any
+    multiple of the first.
+    """
+    names = exponents[:NAMES]
+    lead = parted_steps(ways.steps, names)[0]
+    gap = abs(product(names, lead))
+    unit = [product(names, start) + known for start, known in zip(ways.starts, exponents[NAMES:])]
+    if gap == 0:
+        return (gap, unit)
+    return (gap, [exponent % gap for exponent in unit])
+
+
 def has_formula(sheet, a):
     return a < len(sheet.formulas)
+
+
+def has_formulas(sheet, a, b):
+    return has_formula(sheet, a) and has_formula(sheet, b)
 
 
 def has_room(sheet):
@@ -156,6 +193,20 @@ def has_room_for_name(sheet):
 
 def is_small(exponents):
     return all([abs(exponent) <= LARGEST_EXPONENT for exponent in exponents])
+
+
+def quotient(sheet, a, b):
+    """The exponents of a by b: those of a pure number just where a and b have one unit."""
+    return with_multiple(sheet.formulas[a], -1, sheet.formulas[b])
+
+
+def accepts_line(sheet, line):
+    """Whether the line can be; if so, it holds from now on."""
+    ways = ways_with_line(sheet.ways, line)
+    if ways is None:
+        return False
+    sheet.ways = ways
+    return True
 
 
 def next_name(sheet):
@@ -194,27 +245,87 @@ def answer_base(sheet, exponents):
 
 def answer_product(sheet, a, b, power):
     """The answer of a formula whose unit is a's times the given power of b's."""
-    if not has_formula(sheet, a) or not has_formula(sheet, b):
-        return NO_FORMULA
+    if not has_formulas(sheet, a, b):
+        return NONE_THERE
     return keep_formula(sheet, with_multiple(sheet.formulas[a], power, sheet.formulas[b]))
 
 
 def answer_pow(sheet, a, k):
     if not has_formula(sheet, a):
-        return NO_FORMULA
+        return NONE_THERE
     return keep_formula(sheet, [k * exponent for exponent in sheet.formulas[a]])
 
 
 def answer_root(sheet, a, k):
     if not has_formula(sheet, a):
-        return NO_FORMULA
+        return NONE_THERE
     if k < 1 or k > LARGEST_ROOT or not has_room_for_name(sheet):
         return TOO_MUCH
-    ways = ways_with_line(sheet.ways, with_multiple(sheet.formulas[a], -k, next_name(sheet)))
-    if ways is None:
+    if not accepts_line(sheet, with_multiple(sheet.formulas[a], -k, next_name(sheet))):
         return CANNOT_BE
-    sheet.ways = ways
     return keep_next_name(sheet)
+
+
+def answer_add(sheet, a, b):
+    if not has_formulas(sheet, a, b):
+        return NONE_THERE
+    if not has_room(sheet):
+        return TOO_MUCH
+    if not accepts_line(sheet, quotient(sheet, a, b)):
+        return CANNOT_BE
+    return keep_formula(sheet, list(sheet.formulas[a]))
+
+
+def answer_eq(sheet, a, b):
+    if not has_formulas(sheet, a, b):
+        return NONE_THERE
+    return 0 if accepts_line(sheet, quotient(sheet, a, b)) else CANNOT_BE
+
+
+def answer_test(sheet, a, b):
+    if not has_formulas(sheet, a, b):
+        return NONE_THERE
+    units = units_in(sheet.ways, quotient(sheet, a, b))
+    if units[1] != [0] * BASE_UNITS:
+        return NEVER_SAME
+    return ALWAYS_SAME if units[0] == 0 else SOMETIMES_SAME
+
+
+def answer_keep(sheet):
+    if len(sheet.kept) == MOST_KEPT:
+        return TOO_MUCH
+    sheet.keep()
+    return len(sheet.kept)
+
+
+def answer_back(sheet):
+    if len(sheet.kept) == 0:
+        return NONE_THERE
+    sheet.go_back()
+    return len(sheet.kept)
+
+
+def whole_answer(number, exponents):
+    # The 0 says that no bytes are told.
+    return [number, 0, len(exponents)] + exponents
+
+
+def answer_unit(sheet, a):
+    """The whole answer, as this call alone tells exponents too."""
+    if not has_formula(sheet, a):
+        return whole_answer(NONE_THERE, [])
+    units = units_in(sheet.ways, sheet.formulas[a])
+    return whole_answer(units[0], units[1])
+
+
+def answer_of_none(sheet, call):
+    if call == INIT:
+        return answer_init(sheet)
+    if call == NAME:
+        return answer_name(sheet)
+    if call == KEEP:
+        return answer_keep(sheet)
+    return answer_back(sheet)
 
 
 def answer_of_two(sheet, call, a, b):
@@ -224,22 +335,26 @@ def answer_of_two(sheet, call, a, b):
         return answer_product(sheet, a, b, -1)
     if call == POW:
         return answer_pow(sheet, a, b)
-    return answer_root(sheet, a, b)
+    if call == ROOT:
+        return answer_root(sheet, a, b)
+    if call == ADD:
+        return answer_add(sheet, a, b)
+    if call == EQ:
+        return answer_eq(sheet, a, b)
+    return answer_test(sheet, a, b)
 
 
 def next_answer(sheet, reader):
     call = reader.number()
-    if call == INIT:
-        return answer_init(sheet)
-    if call == NAME:
-        return answer_name(sheet)
+    if call in (INIT, NAME, KEEP, BACK):
+        return whole_answer(answer_of_none(sheet, call), [])
     if call == BASE:
-        return answer_base(sheet, reader.row())
-    if call in (MUL, DIV, POW, ROOT):
-        a = reader.number()
-        b = reader.number()
-        return answer_of_two(sheet, call, a, b)
-    raise UnknownCall(f"there is no call {call}")
+        return whole_answer(answer_base(sheet, reader.row()), [])
+    if call == UNIT:
+        return answer_unit(sheet, reader.number())
+    a = reader.number()
+    b = reader.number()
+    return whole_answer(answer_of_two(sheet, call, a, b), [])
 
 
 def answers(calls):
@@ -248,6 +363,7 @@ def answers(calls):
     reader = Reader(calls)
     told = []
     while reader.has_more():
-        # Of none of these calls a list is told, so each answer is its number, 0 and 0.
-        told.extend([3, next_answer(sheet, reader), 0, 0])
+        answer = next_answer(sheet, reader)
+        told.append(len(answer))
+        told.extend(answer)
     return told
